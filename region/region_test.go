@@ -880,6 +880,12 @@ func TestStrewnGrids(t *testing.T) {
 			}
 		}
 	}
+	for height := 1; height <= 32; height++ {
+		for climb := range min(height, 9) {
+			c := api.Config{Clear: (climb + height) % 4, Climb: climb, Height: height, Run: 1, W: 8, D: 8}
+			gridHolds(t, c, strewn(c, height, -climb, 1+height%5, 1+climb, 3, 1+(height+climb)%3, uint32(1000+40*climb+height)), seen)
+		}
+	}
 	for seed := range uint32(24) {
 		c := config(int(seed) % 4)
 		gridHolds(t, c, rolling(-8, 5, 4+int(seed)%9, 11, []int{5, 20, 90, 400}[seed/4%4], 1+int(seed)%2, 300+seed), seen)
